@@ -1,0 +1,1 @@
+"""Drawings between two others, and the ladders that say where they are."""

@@ -1,0 +1,109 @@
+"""What the interface says of every call: kinds, nothing changed, nothing kept, long texts."""
+
+import unittest
+
+from drawingsbetween.drawings import apart, fit
+from tests.making import drawing, fill, greatest, head, signs, stroke
+
+LONGEST = 55000
+PAIRS = (
+    (drawing(stroke(places=[(1, 2)]), fill()), drawing(stroke(places=[(-3, 9)]), fill(1, 5, 5))),
+    (drawing(stroke("s")), drawing(stroke("t"))),
+    (drawing(), drawing(name="b")),
+    (signs("drawing"), drawing()),
+    (drawing(), signs("drawing a 1 1")),
+    ([], []),
+)
+
+
+def grown(text, more):
+    """The text, and behind it more, over and over, to the greatest length."""
+    start = signs(text)
+    again = signs(more)
+    return (start + again * LONGEST)[:LONGEST]
+
+
+class Kinds(unittest.TestCase):
+    def test_lists_of_whole_numbers(self):
+        for call in (fit, apart):
+            for a, b in PAIRS:
+                answer = call(a, b)
+                self.assertIs(type(answer), list)
+                self.assertEqual([type(n) for n in answer], [int] * len(answer))
+
+    def test_names_of_the_arguments(self):
+        a, b = PAIRS[0]
+        self.assertEqual(fit(a=a, b=b), [0])
+        self.assertEqual(apart(a=a, b=b), [5, 7])
+
+
+class Watched(list):
+    """A list that tells of any change, even one that is undone."""
+
+    def refuse(self, *args, **kwargs):
+        raise AssertionError("what is handed in was changed")
+
+    append = extend = insert = pop = remove = clear = sort = reverse = refuse
+    __setitem__ = __delitem__ = __iadd__ = __imul__ = refuse
+
+
+class NothingChanged(unittest.TestCase):
+    def test_the_same_after_as_before(self):
+        for call in (fit, apart):
+            for a, b in PAIRS:
+                first, second = list(a), list(b)
+                call(first, second)
+                self.assertEqual((first, second), (a, b))
+
+    def test_not_for_a_while_either(self):
+        for call in (fit, apart):
+            for a, b in PAIRS:
+                self.assertEqual(call(Watched(a), Watched(b)), call(a, b))
+
+    def test_one_list_handed_in_twice(self):
+        text = drawing(stroke(), fill())
+        before = list(text)
+        self.assertEqual((fit(text, text), apart(text, text)), ([0], [0, 0]))
+        self.assertEqual(text, before)
+
+
+class NothingKept(unittest.TestCase):
+    def test_a_second_call_answers_the_same(self):
+        for call in (fit, apart):
+            once = [call(a, b) for a, b in PAIRS]
+            again = [call(a, b) for a, b in reversed(PAIRS)]
+            self.assertEqual(once, again[::-1])
+
+    def test_an_answer_is_the_callers_own(self):
+        for call in (fit, apart):
+            for a, b in PAIRS:
+                answer = call(a, b)
+                before = list(answer)
+                answer.append(99)
+                answer[0] = 77
+                self.assertEqual(call(a, b), before)
+
+
+class LongTexts(unittest.TestCase):
+    def test_no_such_text_ends_in_an_error(self):
+        good = drawing()
+        texts = [[sign] * LONGEST for sign in (0, 10, 32, 44, 45, 48, 49, 97, 128, 255)]
+        texts += [grown("", more) for more in ("drawing ", "drawing a 1 1\n", stroke(), fill(), " \n", "0,0 ")]
+        texts += [grown("drawing ", more) for more in ("a", " ", "1")]
+        texts += [grown("drawing a ", more) for more in ("1", "0", "-", "9")]
+        texts += [grown(head(), more) for more in (stroke(), fill(), "\n", " ", "stroke ", "fill ", "stroke\n", "fill\n")]
+        texts += [grown(head() + "stroke s 1 0", more) for more in (" 0,0", " ", ",", "1", "0,")]
+        texts += [grown(head() + "stroke s 1 0 ", more) for more in ("1", "0", "-", "-1", "1,", ",")]
+        texts += [grown(head() + "fill 1 ", more) for more in ("1", "0,0", ",")]
+        texts += [grown(bytes(greatest("a", (-999, -999), (0, 0))).decode(), more) for more in ("\n", "1", fill())]
+        texts.append((signs(head() + "".join(stroke(f"s{i}") for i in range(3000))) + [48] * LONGEST)[:LONGEST])
+        for text in texts:
+            self.assertEqual(len(text), LONGEST)
+            for call in (fit, apart):
+                self.assertEqual(call(text, good), [-6])
+                self.assertEqual(call(good, text), [-5])
+                self.assertEqual(call(text, text), [-6])
+
+
+if __name__ == "__main__":
+    unittest.main()
