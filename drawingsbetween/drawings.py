@@ -1,171 +1,13 @@
-"""Drawings and their texts: whether two fit, and how far apart they are."""
+"""The calls: whether two drawings fit, how far apart they are, and what's between them."""
 
-LINE_END = 10
-BLANK = 32
-COMMA = 44
-MINUS = 45
-NOUGHT = 48
-NINE = 57
-LETTER_A = 97
-LETTER_Z = 122
+from drawingsbetween.texts import Drawing, Fill, Stroke, drawing_or_none, drawing_text, is_name
 
 MOST_BYTES = 65536
-MOST_SIGNS = 16
-MOST_DIGITS = 3
-MOST_SIZE = 256
-MOST_PAINT = 255
-MOST_BRUSH = 16
-FARTHEST_PLACE = 999
-MOST_PLACES = 64
-MOST_STROKES = 64
-MOST_FILLS = 64
-
-
-# Raised within the reading of a text only: the calls answer with numbers.
-class NoDrawing(ValueError):
-    pass
-
-
-class Stroke:
-    def __init__(self, name, paint, brush, places):
-        self.name = name
-        self.paint = paint
-        self.brush = brush
-        self.places = places
-
-
-class Fill:
-    def __init__(self, paint, point):
-        self.paint = paint
-        self.point = point
-
-
-# A drawing's own name is not kept: no answer depends on it.
-class Drawing:
-    def __init__(self, width, height, strokes, fills):
-        self.width = width
-        self.height = height
-        self.strokes = strokes
-        self.fills = fills
-
-
-def must(holds):
-    if not holds:
-        raise NoDrawing("not the text of a drawing")
-
-
-def signs_of(word):
-    return [ord(sign) for sign in word]
-
-
-# Empty pieces are kept, so that a doubled or a missing mark shows as a piece that reads as nothing.
-def cut(signs, mark):
-    pieces = []
-    piece = []
-    for sign in signs:
-        if sign == mark:
-            pieces.append(piece)
-            piece = []
-        else:
-            piece.append(sign)
-    pieces.append(piece)
-    return pieces
-
-
-def is_digit(sign):
-    return NOUGHT <= sign <= NINE
-
-
-def is_letter(sign):
-    return LETTER_A <= sign <= LETTER_Z
-
-
-def is_name(signs):
-    if len(signs) < 1 or len(signs) > MOST_SIGNS:
-        return False
-    if not is_letter(signs[0]):
-        return False
-    return all([is_letter(sign) or is_digit(sign) for sign in signs])
-
-
-def read_number(signs, least, most):
-    below = signs[:1] == [MINUS]
-    digits = signs[1:] if below else signs
-    # No number of a drawing is longer; a row of digits may be as long as the whole text.
-    must(1 <= len(digits) <= MOST_DIGITS)
-    value = 0
-    for digit in digits:
-        must(is_digit(digit))
-        value = value * 10 + digit - NOUGHT
-    # The nought by itself is the one number that begins with one, and it is not below 0.
-    must(digits[0] != NOUGHT or signs == [NOUGHT])
-    if below:
-        value = -value
-    must(least <= value <= most)
-    return value
-
-
-def read_point(signs, least, most_x, most_y):
-    pieces = cut(signs, COMMA)
-    must(len(pieces) == 2)
-    return (read_number(pieces[0], least, most_x), read_number(pieces[1], least, most_y))
-
-
-def read_place(signs):
-    return read_point(signs, -FARTHEST_PLACE, FARTHEST_PLACE, FARTHEST_PLACE)
-
-
-def read_stroke(pieces):
-    must(5 <= len(pieces) <= 4 + MOST_PLACES)
-    must(is_name(pieces[1]))
-    paint = read_number(pieces[2], 1, MOST_PAINT)
-    brush = read_number(pieces[3], 0, MOST_BRUSH)
-    places = [read_place(piece) for piece in pieces[4:]]
-    return Stroke(pieces[1], paint, brush, places)
-
-
-def read_fill(pieces, width, height):
-    must(len(pieces) == 3)
-    must(pieces[0] == signs_of("fill"))
-    paint = read_number(pieces[1], 1, MOST_PAINT)
-    return Fill(paint, read_point(pieces[2], 0, width - 1, height - 1))
-
-
-def read_size(pieces):
-    must(len(pieces) == 4)
-    must(pieces[0] == signs_of("drawing"))
-    must(is_name(pieces[1]))
-    return (read_number(pieces[2], 1, MOST_SIZE), read_number(pieces[3], 1, MOST_SIZE))
-
-
-def names_differ(strokes):
-    names = [tuple(stroke.name) for stroke in strokes]
-    return len(set(names)) == len(names)
-
-
-def read_drawing(text):
-    must(text[-1:] == [LINE_END])
-    rows = [cut(row, BLANK) for row in cut(text[:-1], LINE_END)]
-    size = read_size(rows[0])
-    strokes = []
-    fills = []
-    for row in rows[1:]:
-        if row[0] == signs_of("stroke"):
-            must(len(fills) == 0)
-            strokes.append(read_stroke(row))
-        else:
-            fills.append(read_fill(row, size[0], size[1]))
-    must(len(strokes) <= MOST_STROKES)
-    must(len(fills) <= MOST_FILLS)
-    must(names_differ(strokes))
-    return Drawing(size[0], size[1], strokes, fills)
-
-
-def drawing_or_none(text):
-    try:
-        return read_drawing(text)
-    except NoDrawing:
-        return None
+MOST_PARTS = 64
+# By halves, m times: so many steps from the one end to the other.
+STEPS = (1, 2, 4, 8, 16)
+# What is refused where the first text is none, the second, the third.
+NO_TEXT = (-6, -5, -4)
 
 
 # 0 if the two strokes fit.
@@ -200,16 +42,16 @@ def why_unfit(first, second):
 
 
 # The number and what may be told with it; nothing in the list if there is nothing to refuse.
-def refusal_of_two(a, b, first, second):
-    if len(a) > MOST_BYTES or len(b) > MOST_BYTES:
+def refusal_of(texts, drawings):
+    if any([len(text) > MOST_BYTES for text in texts]):
         return [-2]
-    if first is None:
-        return [-6]
-    if second is None:
-        return [-5]
-    why = why_unfit(first, second)
-    if len(why) != 0:
-        return [-8] + why
+    for i in range(len(drawings)):
+        if drawings[i] is None:
+            return [NO_TEXT[i]]
+    for other in drawings[1:]:
+        why = why_unfit(drawings[0], other)
+        if len(why) != 0:
+            return [-8] + why
     return []
 
 
@@ -229,20 +71,100 @@ def widest(ones, others, axis):
     return most
 
 
+# Each x and y, in the order in which the text has them.
+def numbers_of(drawing):
+    numbers = []
+    for point in points_of(drawing):
+        numbers.extend(point)
+    return numbers
+
+
+# The drawing, but with these numbers, in the order of numbers_of.
+def with_numbers(drawing, numbers):
+    points = [(numbers[i], numbers[i + 1]) for i in range(0, len(numbers), 2)]
+    strokes = []
+    start = 0
+    for stroke in drawing.strokes:
+        end = start + len(stroke.places)
+        strokes.append(Stroke(stroke.name, stroke.paint, stroke.brush, points[start:end]))
+        start = end
+    fills = [Fill(fill.paint, point) for fill, point in zip(drawing.fills, points[start:])]
+    return Drawing(drawing.width, drawing.height, strokes, fills)
+
+
+# The whole number nearest to a / n; rounding down what is half a step too great gives the greater of two.
+def nearest(a, n):
+    return (2 * a + n) // (2 * n)
+
+
+def number_between(p, q, x, u):
+    return x + nearest(p * (u - x), q)
+
+
+# It calls itself at most as often as there are halvings, within one another.
+def number_by_halves(k, m, x, u):
+    if k == 0:
+        return x
+    if k == STEPS[m]:
+        return u
+    if k % 2 == 0:
+        return number_by_halves(k // 2, m - 1, x, u)
+    before = number_by_halves((k - 1) // 2, m - 1, x, u)
+    behind = number_by_halves((k + 1) // 2, m - 1, x, u)
+    return number_between(1, 2, before, behind)
+
+
+def is_part(p, q):
+    return 1 <= q <= MOST_PARTS and 0 <= p <= q
+
+
+def is_step(k, m):
+    return 0 <= m < len(STEPS) and 0 <= k <= STEPS[m]
+
+
+def told(text):
+    return [len(text)] + text
+
+
 def fit(a, b):
-    refusal = refusal_of_two(a, b, drawing_or_none(a), drawing_or_none(b))
+    refusal = refusal_of([a, b], [drawing_or_none(a), drawing_or_none(b)])
     if len(refusal) != 0:
         return refusal
     return [0]
 
 
 def apart(a, b):
-    first = drawing_or_none(a)
-    second = drawing_or_none(b)
-    refusal = refusal_of_two(a, b, first, second)
+    drawings = [drawing_or_none(a), drawing_or_none(b)]
+    refusal = refusal_of([a, b], drawings)
     if len(refusal) != 0:
         # Why they don't fit is fit's to tell.
         return refusal[:1]
-    ones = points_of(first)
-    others = points_of(second)
+    ones = points_of(drawings[0])
+    others = points_of(drawings[1])
     return [widest(ones, others, 0), widest(ones, others, 1)]
+
+
+def between(p, q, a, b, s):
+    if not is_part(p, q) or not is_name(s):
+        return [-1]
+    drawings = [drawing_or_none(a), drawing_or_none(b)]
+    refusal = refusal_of([a, b], drawings)
+    if len(refusal) != 0:
+        return refusal[:1]
+    xs = numbers_of(drawings[0])
+    us = numbers_of(drawings[1])
+    numbers = [number_between(p, q, xs[i], us[i]) for i in range(len(xs))]
+    return told(drawing_text(with_numbers(drawings[0], numbers), s))
+
+
+def halves(k, m, a, b, s):
+    if not is_step(k, m) or not is_name(s):
+        return [-1]
+    drawings = [drawing_or_none(a), drawing_or_none(b)]
+    refusal = refusal_of([a, b], drawings)
+    if len(refusal) != 0:
+        return refusal[:1]
+    xs = numbers_of(drawings[0])
+    us = numbers_of(drawings[1])
+    numbers = [number_by_halves(k, m, xs[i], us[i]) for i in range(len(xs))]
+    return told(drawing_text(with_numbers(drawings[0], numbers), s))

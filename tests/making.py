@@ -1,4 +1,14 @@
-"""Texts for the tests, made apart from the program."""
+"""Texts for the tests, made and read apart from the program."""
+
+import re
+
+NUMBER = rb"(?:0|-?[1-9][0-9]*)"
+NAME = rb"[a-z][a-z0-9]{0,15}"
+POINT = NUMBER + rb"," + NUMBER
+HEAD = rb"drawing " + NAME + rb" (" + NUMBER + rb") (" + NUMBER + rb")\n"
+STROKE = rb"stroke (" + NAME + rb") (" + NUMBER + rb") (" + NUMBER + rb")((?: " + POINT + rb"){1,64})\n"
+FILL = rb"fill (" + NUMBER + rb") (" + NUMBER + rb"),(" + NUMBER + rb")\n"
+WHOLE = HEAD + rb"((?:" + STROKE.replace(b"(" + NAME, b"(?:" + NAME) + rb"){0,64})((?:" + FILL + rb"){0,64})"
 
 
 def signs(text):
@@ -26,3 +36,102 @@ def greatest(name, place, point):
     rows = [stroke(f"s{i:015d}", 255, 16, [place] * 64) for i in range(64)]
     rows += [fill(255, *point)] * 64
     return drawing(*rows, name=name, width=256, height=256)
+
+
+def is_drawing(text):
+    """The document's words as a pattern, to hold the program's reading against."""
+    if not re.fullmatch(WHOLE, text):
+        return False
+    width, height = [int(n) for n in re.match(HEAD, text).groups()]
+    if not (1 <= width <= 256 and 1 <= height <= 256):
+        return False
+    strokes = re.findall(STROKE, text)
+    for name, paint, brush, places in strokes:
+        numbers = [int(n) for n in re.findall(rb"-?[0-9]+", places)]
+        if not (1 <= int(paint) <= 255 and 0 <= int(brush) <= 16 and -999 <= min(numbers) and max(numbers) <= 999):
+            return False
+    for paint, x, y in re.findall(FILL, text):
+        if not (1 <= int(paint) <= 255 and 0 <= int(x) < width and 0 <= int(y) < height):
+            return False
+    return len({name for name, paint, brush, places in strokes}) == len(strokes)
+
+
+def numbers(text):
+    """Each x and y of a drawing's text, in its order."""
+    points = re.findall(rb"(-?[0-9]+),(-?[0-9]+)", bytes(text))
+    return [int(n) for point in points for n in point]
+
+
+def named(text, name):
+    """The drawing's text with another name."""
+    return signs(re.sub(r"^drawing [a-z0-9]+ ", f"drawing {name} ", bytes(text).decode("latin-1")))
+
+
+def told(text):
+    return [len(text)] + text
+
+
+def text_of(answer):
+    """The text that is told, once its length is held against it."""
+    if answer[:1] != [len(answer) - 1]:
+        raise AssertionError(f"no text is told: {answer[:20]}")
+    return answer[1:]
+
+
+def is_nearest(number, a, n):
+    """Whether it is the whole number nearest to a / n, the greater of two."""
+    return -n < 2 * (number * n - a) <= n
+
+
+def paired(values):
+    """Each two of the values, in two lists."""
+    return [x for x in values for u in values], [u for x in values for u in values]
+
+
+def points(values):
+    """The values as points, the last one put in again where they are odd."""
+    values = values + values[-1:] * (len(values) % 2)
+    return list(zip(values[::2], values[1::2]))
+
+
+def shaped(name, values, spots):
+    """A drawing with strokes through these values, x and y in turn, and fills at these spots."""
+    places = points(values)
+    rows = [stroke(f"s{i}", i + 1, i % 17, places[i:i + 64]) for i in range(0, len(places), 64)]
+    rows += [fill(i + 1, *point) for i, point in enumerate(points(spots))]
+    return drawing(*rows, name=name, width=256, height=256)
+
+
+def ends():
+    """Two that fit, each of these numbers on its way to each other one."""
+    ones, others = paired((-999, -998, -64, -3, -2, -1, 0, 1, 2, 5, 63, 999))
+    spots, others_spots = paired((0, 1, 2, 128, 255))
+    return shaped("one", ones, spots), shaped("two", others, others_spots)
+
+
+def unfit():
+    """Two that don't fit, one for each cause, in both orders."""
+    a = drawing(stroke("s"), fill(1))
+    others = [
+        drawing(stroke("s"), fill(1), width=11),
+        drawing(stroke("s"), fill(1), height=11),
+        drawing(stroke("s"), stroke("t"), fill(1)),
+        drawing(stroke("t"), fill(1)),
+        drawing(stroke("s", paint=2), fill(1)),
+        drawing(stroke("s", brush=1), fill(1)),
+        drawing(stroke("s", places=[(0, 0), (0, 0)]), fill(1)),
+        drawing(stroke("s"), fill(1), fill(1)),
+        drawing(stroke("s"), fill(2)),
+    ]
+    return [(a, b) for b in others] + [(b, a) for b in others]
+
+
+# The greatest number that can be handed in.
+MOST = 18446744073709551615
+
+# Names that are none, and some that are.
+WRONG_NAMES = [signs(name) for name in (
+    "", "a" * 17, "a" * 100, "1", "9a", "0", "A", "aB", "Z9", "a b", " a", "a ", "a\n", "\n", "a-b", "-a", "a_b", "_", "a,",
+    "a/b", "a:b", "`", "{", "a`", "a{", "a\0", "\0", "a\x80", "\xe1", "a\xff", "a" * 15 + "A", "a" * 16 + " ")]
+RIGHT_NAMES = [signs(name) for name in (
+    "a", "z", "a0", "z9", "mid", "a" * 16, "z" * 15 + "9", "a123456789012345", "drawing", "stroke", "fill", "chart")]

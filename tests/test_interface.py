@@ -1,11 +1,13 @@
 """What the interface says of every call: kinds, nothing changed, nothing kept, long texts."""
 
+import inspect
 import unittest
 
-from drawingsbetween.drawings import apart, fit
-from tests.making import drawing, fill, greatest, head, signs, stroke
+from drawingsbetween.drawings import apart, between, fit, halves
+from tests.making import MOST, drawing, fill, greatest, head, signs, stroke
 
 LONGEST = 55000
+MID = signs("mid")
 PAIRS = (
     (drawing(stroke(places=[(1, 2)]), fill()), drawing(stroke(places=[(-3, 9)]), fill(1, 5, 5))),
     (drawing(stroke("s")), drawing(stroke("t"))),
@@ -14,6 +16,21 @@ PAIRS = (
     (drawing(), signs("drawing a 1 1")),
     ([], []),
 )
+# The calls of two texts, with numbers and a name where they take such.
+OF_TWO = (
+    fit,
+    apart,
+    lambda a, b: between(1, 2, a, b, MID),
+    lambda a, b: halves(3, 2, a, b, MID),
+)
+CASES = [(call, pair) for call in (fit, apart) for pair in PAIRS]
+CASES += [(call, (1, 2, *pair, MID)) for call in (between, halves) for pair in PAIRS]
+CASES += [(call, (*two, *PAIRS[0], MID)) for call in (between, halves) for two in ((0, 1), (MOST, MOST), (1, 0))]
+CASES += [(call, (1, 2, *PAIRS[0], s)) for call in (between, halves) for s in ([], signs("9"), [97] * 100)]
+
+
+def copied(given):
+    return [list(thing) if isinstance(thing, list) else thing for thing in given]
 
 
 def grown(text, more):
@@ -25,16 +42,21 @@ def grown(text, more):
 
 class Kinds(unittest.TestCase):
     def test_lists_of_whole_numbers(self):
-        for call in (fit, apart):
-            for a, b in PAIRS:
-                answer = call(a, b)
-                self.assertIs(type(answer), list)
-                self.assertEqual([type(n) for n in answer], [int] * len(answer))
+        for call, given in CASES:
+            answer = call(*given)
+            self.assertIs(type(answer), list)
+            self.assertEqual([type(n) for n in answer], [int] * len(answer))
 
     def test_names_of_the_arguments(self):
-        a, b = PAIRS[0]
-        self.assertEqual(fit(a=a, b=b), [0])
-        self.assertEqual(apart(a=a, b=b), [5, 7])
+        names = {fit: "a b", apart: "a b", between: "p q a b s", halves: "k m a b s"}
+        for call, expected in names.items():
+            self.assertEqual(" ".join(inspect.signature(call).parameters), expected)
+
+    def test_a_refusal_is_its_number_alone_or_a_text_has_its_length(self):
+        for call, given in CASES:
+            answer = call(*given)
+            if call in (between, halves):
+                self.assertTrue(answer in ([-1], [-6], [-5], [-8]) or answer[0] == len(answer) - 1, answer)
 
 
 class Watched(list):
@@ -49,39 +71,42 @@ class Watched(list):
 
 class NothingChanged(unittest.TestCase):
     def test_the_same_after_as_before(self):
-        for call in (fit, apart):
-            for a, b in PAIRS:
-                first, second = list(a), list(b)
-                call(first, second)
-                self.assertEqual((first, second), (a, b))
+        for call, given in CASES:
+            handed = copied(given)
+            call(*handed)
+            self.assertEqual(handed, list(given))
 
     def test_not_for_a_while_either(self):
-        for call in (fit, apart):
-            for a, b in PAIRS:
-                self.assertEqual(call(Watched(a), Watched(b)), call(a, b))
+        for call, given in CASES:
+            watched = [Watched(thing) if isinstance(thing, list) else thing for thing in given]
+            answer = call(*watched)
+            self.assertEqual(answer, call(*given))
+            self.assertIs(type(answer), list)
 
     def test_one_list_handed_in_twice(self):
         text = drawing(stroke(), fill())
         before = list(text)
         self.assertEqual((fit(text, text), apart(text, text)), ([0], [0, 0]))
-        self.assertEqual(text, before)
+        for call in OF_TWO:
+            call(text, text)
+            self.assertEqual(text, before)
 
 
 class NothingKept(unittest.TestCase):
     def test_a_second_call_answers_the_same(self):
-        for call in (fit, apart):
-            once = [call(a, b) for a, b in PAIRS]
-            again = [call(a, b) for a, b in reversed(PAIRS)]
-            self.assertEqual(once, again[::-1])
+        once = [call(*given) for call, given in CASES]
+        again = [call(*given) for call, given in reversed(CASES)]
+        self.assertEqual(once, again[::-1])
 
     def test_an_answer_is_the_callers_own(self):
-        for call in (fit, apart):
-            for a, b in PAIRS:
-                answer = call(a, b)
-                before = list(answer)
-                answer.append(99)
-                answer[0] = 77
-                self.assertEqual(call(a, b), before)
+        for call, given in CASES:
+            handed = copied(given)
+            answer = call(*handed)
+            before = list(answer)
+            answer.append(99)
+            answer[0] = 77
+            self.assertEqual(handed, list(given))
+            self.assertEqual(call(*handed), before)
 
 
 class LongTexts(unittest.TestCase):
@@ -99,7 +124,7 @@ class LongTexts(unittest.TestCase):
         texts.append((signs(head() + "".join(stroke(f"s{i}") for i in range(3000))) + [48] * LONGEST)[:LONGEST])
         for text in texts:
             self.assertEqual(len(text), LONGEST)
-            for call in (fit, apart):
+            for call in OF_TWO:
                 self.assertEqual(call(text, good), [-6])
                 self.assertEqual(call(good, text), [-5])
                 self.assertEqual(call(text, text), [-6])

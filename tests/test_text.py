@@ -1,48 +1,27 @@
 """A drawing's text, byte by byte, at each call that reads one."""
 
-import re
 import unittest
 
-from drawingsbetween.drawings import apart, fit
-from tests.making import drawing, fill, head, signs, stroke
+from drawingsbetween.drawings import apart, between, fit, halves
+from tests.making import drawing, fill, head, is_drawing, named, signs, stroke, told
 
 GOOD = drawing()
+MID = signs("mid")
+CALLS = (fit, apart, lambda a, b: between(1, 2, a, b, MID), lambda a, b: halves(1, 1, a, b, MID))
 SAMPLE = "drawing a1 20 9\nstroke b 10 0 -7,30 0,0\nstroke c2 1 16 5,-10\nfill 255 19,8\nfill 3 0,0\n"
-
-NUMBER = rb"(?:0|-?[1-9][0-9]*)"
-NAME = rb"[a-z][a-z0-9]{0,15}"
-POINT = NUMBER + rb"," + NUMBER
-HEAD = rb"drawing " + NAME + rb" (" + NUMBER + rb") (" + NUMBER + rb")\n"
-STROKE = rb"stroke (" + NAME + rb") (" + NUMBER + rb") (" + NUMBER + rb")((?: " + POINT + rb"){1,64})\n"
-FILL = rb"fill (" + NUMBER + rb") (" + NUMBER + rb"),(" + NUMBER + rb")\n"
-WHOLE = HEAD + rb"((?:" + STROKE.replace(b"(" + NAME, b"(?:" + NAME) + rb"){0,64})((?:" + FILL + rb"){0,64})"
-
-
-def is_drawing(text):
-    """The document's words as a pattern, to hold the program's reading against."""
-    if not re.fullmatch(WHOLE, text):
-        return False
-    width, height = [int(n) for n in re.match(HEAD, text).groups()]
-    if not (1 <= width <= 256 and 1 <= height <= 256):
-        return False
-    strokes = re.findall(STROKE, text)
-    for name, paint, brush, places in strokes:
-        numbers = [int(n) for n in re.findall(rb"-?[0-9]+", places)]
-        if not (1 <= int(paint) <= 255 and 0 <= int(brush) <= 16 and -999 <= min(numbers) and max(numbers) <= 999):
-            return False
-    for paint, x, y in re.findall(FILL, text):
-        if not (1 <= int(paint) <= 255 and 0 <= int(x) < width and 0 <= int(y) < height):
-            return False
-    return len({name for name, paint, brush, places in strokes}) == len(strokes)
 
 
 class Reading(unittest.TestCase):
     def is_one(self, text):
         self.assertEqual(fit(text, text), [0], bytes(text[:200]))
         self.assertEqual(apart(text, text), [0, 0], bytes(text[:200]))
+        # From a drawing to itself nothing moves: what was read is written byte by byte.
+        again = told(named(text, "mid"))
+        self.assertEqual(between(1, 2, text, text, MID), again, bytes(text[:200]))
+        self.assertEqual(halves(1, 1, text, text, MID), again, bytes(text[:200]))
 
     def is_none(self, text):
-        for call in (fit, apart):
+        for call in CALLS:
             self.assertEqual(call(text, GOOD), [-6], bytes(text[:200]))
             self.assertEqual(call(GOOD, text), [-5], bytes(text[:200]))
             self.assertEqual(call(text, text), [-6], bytes(text[:200]))
