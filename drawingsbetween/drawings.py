@@ -1,9 +1,9 @@
-"""The calls: whether two drawings fit, how far apart they are, and what's between them."""
+"""The calls: whether two drawings fit, how far apart they are, what's between them, and what a ladder has."""
 
 from drawingsbetween.texts import Drawing, Fill, Stroke, drawing_or_none, drawing_text, is_name
+from drawingsbetween.texts import FARTHEST_PLACE, MOST_PARTS, NoLadder, Reader, read_ladder
 
 MOST_BYTES = 65536
-MOST_PARTS = 64
 # By halves, m times: so many steps from the one end to the other.
 STEPS = (1, 2, 4, 8, 16)
 # What is refused where the first text is none, the second, the third.
@@ -114,6 +114,25 @@ def number_by_halves(k, m, x, u):
     return number_between(1, 2, before, behind)
 
 
+def number_arced(p, q, x, m, u):
+    return nearest((q - p) * (q - 2 * p) * x + 4 * p * (q - p) * m + p * (2 * p - q) * u, q * q)
+
+
+def is_place(point):
+    return abs(point[0]) <= FARTHEST_PLACE and abs(point[1]) <= FARTHEST_PLACE
+
+
+# An arc may lead out of what a drawing can have, even if its ends and its middle don't.
+def is_there(drawing):
+    for stroke in drawing.strokes:
+        if not all([is_place(place) for place in stroke.places]):
+            return False
+    for fill in drawing.fills:
+        if not (0 <= fill.point[0] < drawing.width and 0 <= fill.point[1] < drawing.height):
+            return False
+    return True
+
+
 def is_part(p, q):
     return 1 <= q <= MOST_PARTS and 0 <= p <= q
 
@@ -168,3 +187,31 @@ def halves(k, m, a, b, s):
     us = numbers_of(drawings[1])
     numbers = [number_by_halves(k, m, xs[i], us[i]) for i in range(len(xs))]
     return told(drawing_text(with_numbers(drawings[0], numbers), s))
+
+
+def arced(p, q, a, b, c, s):
+    if not is_part(p, q) or not is_name(s):
+        return [-1]
+    drawings = [drawing_or_none(a), drawing_or_none(b), drawing_or_none(c)]
+    refusal = refusal_of([a, b, c], drawings)
+    if len(refusal) != 0:
+        return refusal[:1]
+    xs = numbers_of(drawings[0])
+    ms = numbers_of(drawings[1])
+    us = numbers_of(drawings[2])
+    numbers = [number_arced(p, q, xs[i], ms[i], us[i]) for i in range(len(xs))]
+    drawing = with_numbers(drawings[0], numbers)
+    if not is_there(drawing):
+        return [-3]
+    return told(drawing_text(drawing, s))
+
+
+def chart(t):
+    if len(t) > MOST_BYTES:
+        return [-2]
+    reader = Reader(t)
+    try:
+        fractions = read_ladder(reader)
+    except NoLadder:
+        return [-6, reader.reach]
+    return [len(fractions)]

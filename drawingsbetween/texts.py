@@ -1,9 +1,10 @@
-"""Drawings' texts, byte by byte: how they are read and written."""
+"""Texts, byte by byte: how drawings' are read and written, and how ladders' are read."""
 
 LINE_END = 10
 BLANK = 32
 COMMA = 44
 MINUS = 45
+SLASH = 47
 NOUGHT = 48
 NINE = 57
 LETTER_A = 97
@@ -18,10 +19,17 @@ FARTHEST_PLACE = 999
 MOST_PLACES = 64
 MOST_STROKES = 64
 MOST_FILLS = 64
+MOST_PARTS = 64
+MOST_FRACTIONS = 32
+GREATEST_FRACTION = (63, 64)
 
 
 # Raised within the reading of a text only: the calls answer with numbers.
 class NoDrawing(ValueError):
+    pass
+
+
+class NoLadder(ValueError):
     pass
 
 
@@ -204,3 +212,92 @@ def drawing_text(drawing, name):
     for fill in drawing.fills:
         text.extend(fill_row(fill))
     return text
+
+
+def in_common(text, start, word):
+    count = 0
+    while count < len(word) and text[start + count:start + count + 1] == word[count:count + 1]:
+        count += 1
+    return count
+
+
+# Goes along a text as far as some ladder's text begins with it; reach is how many bytes that is.
+class Reader:
+    def __init__(self, text):
+        self.text = text
+        self.reach = 0
+
+    # The number of the word that stands next. The words are all that may stand there, so that each leads on
+    # to a ladder's text, and none of them begins another one: the one that is met whole is the only one.
+    def take(self, words):
+        longest = 0
+        for i in range(len(words)):
+            count = in_common(self.text, self.reach, words[i])
+            longest = max(longest, count)
+            if count == len(words[i]):
+                self.reach += count
+                return i
+        self.reach += longest
+        raise NoLadder("not the text of a ladder")
+
+    def take_name(self):
+        start = self.reach
+        while self.reach < len(self.text) and is_name(self.text[start:self.reach + 1]):
+            self.reach += 1
+        if self.reach == start:
+            raise NoLadder("not the text of a ladder")
+
+    def has_ended_a_row(self):
+        return self.text[self.reach - 1] == LINE_END
+
+
+def common_divisor(one, other):
+    while other != 0:
+        rest = one % other
+        one = other
+        other = rest
+    return one
+
+
+def is_greater(p, q, before):
+    return p * before[1] > before[0] * q
+
+
+# With p above, p / (p + 1) is the greatest, and always in least terms: if it's too little, all are.
+def numerators(before):
+    return [p for p in range(1, MOST_PARTS) if is_greater(p, p + 1, before)]
+
+
+def denominators(p, before):
+    return [q for q in range(p + 1, MOST_PARTS + 1) if common_divisor(p, q) == 1 and is_greater(p, q, before)]
+
+
+# Another one may stand behind this one, which is the count-th.
+def may_go_on(fraction, count):
+    return count < MOST_FRACTIONS and fraction != GREATEST_FRACTION
+
+
+def read_fraction(reader, before, count):
+    above = numerators(before)
+    p = above[reader.take([number_signs(number) + [SLASH] for number in above])]
+    fractions = []
+    words = []
+    for q in denominators(p, before):
+        fractions.append((p, q))
+        words.append(number_signs(q) + [LINE_END])
+        if may_go_on((p, q), count):
+            fractions.append((p, q))
+            words.append(number_signs(q) + [BLANK])
+    return fractions[reader.take(words)]
+
+
+def read_ladder(reader):
+    reader.take([signs_of("chart ")])
+    reader.take_name()
+    reader.take([[BLANK]])
+    fractions = [read_fraction(reader, (0, 1), 1)]
+    while not reader.has_ended_a_row():
+        fractions.append(read_fraction(reader, fractions[-1], len(fractions) + 1))
+    if reader.reach != len(reader.text):
+        raise NoLadder("bytes behind the end of a ladder's text")
+    return fractions

@@ -3,10 +3,11 @@
 import inspect
 import unittest
 
-from drawingsbetween.drawings import apart, between, fit, halves
+from drawingsbetween.drawings import apart, arced, between, chart, fit, halves
 from tests.making import MOST, drawing, fill, greatest, head, signs, stroke
 
 LONGEST = 55000
+LONGEST_OF_THREE = 36000
 MID = signs("mid")
 PAIRS = (
     (drawing(stroke(places=[(1, 2)]), fill()), drawing(stroke(places=[(-3, 9)]), fill(1, 5, 5))),
@@ -23,10 +24,24 @@ OF_TWO = (
     lambda a, b: between(1, 2, a, b, MID),
     lambda a, b: halves(3, 2, a, b, MID),
 )
+TRIOS = (
+    (*PAIRS[0], PAIRS[0][0]),
+    (PAIRS[0][0], *PAIRS[0]),
+    (signs("drawing"), drawing(), drawing()),
+    (drawing(), signs("drawing"), drawing()),
+    (drawing(), drawing(), signs("drawing")),
+    (drawing(stroke("s")), drawing(stroke("s")), drawing(stroke("t"))),
+    ([], [], []),
+    [drawing(stroke(places=[(n, 0)])) for n in (999, 999, -999)],
+)
+LADDERS = ([], signs("chart a 1/2\n"), signs("chart a 1/3 1/2 63/64\n"), signs("chart a 2/4\n"), signs("chart"), [10] * 65537)
 CASES = [(call, pair) for call in (fit, apart) for pair in PAIRS]
 CASES += [(call, (1, 2, *pair, MID)) for call in (between, halves) for pair in PAIRS]
 CASES += [(call, (*two, *PAIRS[0], MID)) for call in (between, halves) for two in ((0, 1), (MOST, MOST), (1, 0))]
 CASES += [(call, (1, 2, *PAIRS[0], s)) for call in (between, halves) for s in ([], signs("9"), [97] * 100)]
+CASES += [(arced, (1, 4, *trio, MID)) for trio in TRIOS]
+CASES += [(arced, (p, q, *TRIOS[0], s)) for p, q, s in ((0, 1, MID), (MOST, MOST, MID), (1, 0, MID), (1, 4, [97] * 100))]
+CASES += [(chart, (t,)) for t in LADDERS]
 
 
 def copied(given):
@@ -48,15 +63,18 @@ class Kinds(unittest.TestCase):
             self.assertEqual([type(n) for n in answer], [int] * len(answer))
 
     def test_names_of_the_arguments(self):
-        names = {fit: "a b", apart: "a b", between: "p q a b s", halves: "k m a b s"}
+        names = {fit: "a b", apart: "a b", between: "p q a b s", halves: "k m a b s", arced: "p q a b c s", chart: "t"}
         for call, expected in names.items():
             self.assertEqual(" ".join(inspect.signature(call).parameters), expected)
 
     def test_a_refusal_is_its_number_alone_or_a_text_has_its_length(self):
         for call, given in CASES:
             answer = call(*given)
-            if call in (between, halves):
-                self.assertTrue(answer in ([-1], [-6], [-5], [-8]) or answer[0] == len(answer) - 1, answer)
+            if call in (between, halves, arced):
+                refused = len(answer) == 1 and answer[0] in (-1, -6, -5, -4, -8, -3)
+                self.assertTrue(refused or answer[0] == len(answer) - 1, answer)
+            if call == chart:
+                self.assertEqual(len(answer), 2 if answer[0] == -6 else 1)
 
 
 class Watched(list):
@@ -90,6 +108,8 @@ class NothingChanged(unittest.TestCase):
         for call in OF_TWO:
             call(text, text)
             self.assertEqual(text, before)
+        arced(1, 4, text, text, text, MID)
+        self.assertEqual(text, before)
 
 
 class NothingKept(unittest.TestCase):
@@ -128,6 +148,10 @@ class LongTexts(unittest.TestCase):
                 self.assertEqual(call(text, good), [-6])
                 self.assertEqual(call(good, text), [-5])
                 self.assertEqual(call(text, text), [-6])
+            shorter = text[:LONGEST_OF_THREE]
+            self.assertEqual(arced(1, 4, shorter, good, good, MID), [-6])
+            self.assertEqual(arced(1, 4, good, shorter, good, MID), [-5])
+            self.assertEqual(arced(1, 4, good, good, shorter, MID), [-4])
 
 
 if __name__ == "__main__":

@@ -2,7 +2,7 @@
 
 import unittest
 
-from drawingsbetween.drawings import apart, between, fit, halves
+from drawingsbetween.drawings import apart, arced, between, fit, halves
 from tests.making import drawing, fill, head, is_drawing, named, signs, stroke, told
 
 GOOD = drawing()
@@ -19,12 +19,16 @@ class Reading(unittest.TestCase):
         again = told(named(text, "mid"))
         self.assertEqual(between(1, 2, text, text, MID), again, bytes(text[:200]))
         self.assertEqual(halves(1, 1, text, text, MID), again, bytes(text[:200]))
+        self.assertEqual(arced(1, 4, text, text, text, MID), again, bytes(text[:200]))
 
     def is_none(self, text):
         for call in CALLS:
             self.assertEqual(call(text, GOOD), [-6], bytes(text[:200]))
             self.assertEqual(call(GOOD, text), [-5], bytes(text[:200]))
             self.assertEqual(call(text, text), [-6], bytes(text[:200]))
+        self.assertEqual(arced(1, 4, text, GOOD, GOOD, MID), [-6], bytes(text[:200]))
+        self.assertEqual(arced(1, 4, GOOD, text, GOOD, MID), [-5], bytes(text[:200]))
+        self.assertEqual(arced(1, 4, GOOD, GOOD, text, MID), [-4], bytes(text[:200]))
 
     def ones(self, *texts):
         for text in texts:
