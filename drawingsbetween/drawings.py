@@ -1,7 +1,8 @@
-"""The calls: whether two drawings fit, how far apart they are, what's between them, and what a ladder has."""
+"""The calls: whether two drawings fit, how far apart they are, what's between them; and what ladders tell."""
 
 from drawingsbetween.texts import Drawing, Fill, Stroke, drawing_or_none, drawing_text, is_name
-from drawingsbetween.texts import FARTHEST_PLACE, MOST_PARTS, NoLadder, Reader, read_ladder
+from drawingsbetween.texts import FARTHEST_PLACE, MOST_PARTS, Ladder, NoLadder, Reader
+from drawingsbetween.texts import ladder_or_none, ladder_text, read_ladder
 
 MOST_BYTES = 65536
 # By halves, m times: so many steps from the one end to the other.
@@ -141,6 +142,11 @@ def is_step(k, m):
     return 0 <= m < len(STEPS) and 0 <= k <= STEPS[m]
 
 
+# What is left of a fraction in least terms is in least terms too.
+def turned_fractions(fractions):
+    return [(q - p, q) for p, q in reversed(fractions)]
+
+
 def told(text):
     return [len(text)] + text
 
@@ -211,7 +217,28 @@ def chart(t):
         return [-2]
     reader = Reader(t)
     try:
-        fractions = read_ladder(reader)
+        ladder = read_ladder(reader)
     except NoLadder:
         return [-6, reader.reach]
-    return [len(fractions)]
+    return [len(ladder.fractions)]
+
+
+def at(i, t):
+    if len(t) > MOST_BYTES:
+        return [-2]
+    ladder = ladder_or_none(t)
+    if ladder is None:
+        # Where its fault is, is chart's to tell.
+        return [-6]
+    if i >= len(ladder.fractions):
+        return [-3]
+    return list(ladder.fractions[i])
+
+
+def turned(t):
+    if len(t) > MOST_BYTES:
+        return [-2]
+    ladder = ladder_or_none(t)
+    if ladder is None:
+        return [-6]
+    return told(ladder_text(Ladder(ladder.name, turned_fractions(ladder.fractions))))

@@ -1,4 +1,4 @@
-"""Texts, byte by byte: how drawings' are read and written, and how ladders' are read."""
+"""Texts, byte by byte: how drawings' and ladders' are read and written."""
 
 LINE_END = 10
 BLANK = 32
@@ -54,6 +54,12 @@ class Drawing:
         self.height = height
         self.strokes = strokes
         self.fills = fills
+
+
+class Ladder:
+    def __init__(self, name, fractions):
+        self.name = name
+        self.fractions = fractions
 
 
 def must(holds):
@@ -246,6 +252,7 @@ class Reader:
             self.reach += 1
         if self.reach == start:
             raise NoLadder("not the text of a ladder")
+        return self.text[start:self.reach]
 
     def has_ended_a_row(self):
         return self.text[self.reach - 1] == LINE_END
@@ -293,11 +300,27 @@ def read_fraction(reader, before, count):
 
 def read_ladder(reader):
     reader.take([signs_of("chart ")])
-    reader.take_name()
+    name = reader.take_name()
     reader.take([[BLANK]])
     fractions = [read_fraction(reader, (0, 1), 1)]
     while not reader.has_ended_a_row():
         fractions.append(read_fraction(reader, fractions[-1], len(fractions) + 1))
     if reader.reach != len(reader.text):
         raise NoLadder("bytes behind the end of a ladder's text")
-    return fractions
+    return Ladder(name, fractions)
+
+
+def ladder_or_none(text):
+    try:
+        return read_ladder(Reader(text))
+    except NoLadder:
+        return None
+
+
+def fraction_signs(fraction):
+    return joined([number_signs(fraction[0]), number_signs(fraction[1])], SLASH)
+
+
+def ladder_text(ladder):
+    pieces = [signs_of("chart"), ladder.name]
+    return row_signs(pieces + [fraction_signs(fraction) for fraction in ladder.fractions])

@@ -1,6 +1,7 @@
 """Texts for the tests, made and read apart from the program."""
 
 import re
+from fractions import Fraction
 
 NUMBER = rb"(?:0|-?[1-9][0-9]*)"
 NAME = rb"[a-z][a-z0-9]{0,15}"
@@ -135,3 +136,39 @@ WRONG_NAMES = [signs(name) for name in (
     "a/b", "a:b", "`", "{", "a`", "a{", "a\0", "\0", "a\x80", "\xe1", "a\xff", "a" * 15 + "A", "a" * 16 + " ")]
 RIGHT_NAMES = [signs(name) for name in (
     "a", "z", "a0", "z9", "mid", "a" * 16, "z" * 15 + "9", "a123456789012345", "drawing", "stroke", "fill", "chart")]
+
+# Every fraction that a ladder may have, from the least on.
+ALL = sorted({Fraction(p, q) for q in range(2, 65) for p in range(1, q)})
+
+
+def ladder(fractions, name="a"):
+    return f"chart {name}" + "".join(f" {f.numerator}/{f.denominator}" for f in fractions) + "\n"
+
+
+def fractions_of(text):
+    """The fractions that a ladder's text has, p and q as they stand there."""
+    return [(int(p), int(q)) for p, q in re.findall(rb"([0-9]+)/([0-9]+)", bytes(text))]
+
+
+def some_ladders():
+    """Lists of fractions: 1 to 32 of them, the least, the greatest and those between, close together and far apart."""
+    some = [ALL[:count] for count in range(1, 33)] + [ALL[-count:] for count in range(1, 33)]
+    some += [ALL[start::step][:32] for start in (0, 1, 5, 629) for step in (2, 3, 17, 39)]
+    some += [ALL[:1] + ALL[-1:], [Fraction(1, 2)], ALL[629 - 16:629 + 16], ALL[:16] + ALL[-16:]]
+    return some
+
+
+def no_ladders():
+    """Texts that are none: names, fractions and marks that can't be, one cause by one."""
+    texts = [b"chart " + bytes(name) + b" 1/2\n" for name in WRONG_NAMES]
+    texts += [b"chart a " + piece + b"\n" for piece in (
+        b"", b"0/1", b"0/2", b"1/1", b"2/2", b"3/2", b"1/0", b"0/0", b"1/65", b"64/65", b"63/65", b"1/640", b"1/100", b"64/64",
+        b"2/4", b"3/6", b"2/64", b"32/64", b"62/64", b"6/9", b"63/63", b"01/2", b"1/02", b"-1/2", b"1/-2", b"+1/2", b"1", b"1/",
+        b"/2", b"/", b"1//2", b"1/2/3", b"1:2", b"1 2", b"1/ 2", b"1 /2", b" 1/2", b"1/2 ", b"1/2  2/3", b"1/2,2/3", b"1/2\n2/3",
+        b"1/2 1/2", b"1/2 1/3", b"1/2 2/4", b"2/3 1/2", b"3/4 2/3", b"1/3 2/3 1/2", b"1/64 1/64", b"63/64 63/64", b"62/63 61/62",
+        b"1/2 x", b"x", b"1/2\r", b"1/2\0", b"\xb9/\xb2", b"1/2 3/4 ")]
+    texts += [b"", b"\n", b" ", b"chart", b"chart a", b"chart\n", b"chart 1/2\n", b"Chart a 1/2\n", b"charts a 1/2\n", b"chart  a 1/2\n",
+              b" chart a 1/2\n", b"chart a  1/2\n", b"charta 1/2\n", b"chart\ta 1/2\n", b"drawing a 1 1\n", b"\nchart a 1/2\n",
+              b"chart a 1/2\nchart a 1/2\n", b"chart a 1/2\n\n", b"chart a 1/2", b"chart a 1/2\n ", b"chart a 1/2\n\0"]
+    texts += [ladder(fractions).encode() for fractions in (ALL[:33], ALL[-33:], ALL[::37], ALL[::-1][:32], ALL)]
+    return [list(text) for text in texts]

@@ -1,20 +1,14 @@
 import re
 import unittest
-from fractions import Fraction
 from functools import lru_cache
 
 from drawingsbetween.drawings import chart
-from tests.making import RIGHT_NAMES, WRONG_NAMES, signs
+from tests.making import ALL, RIGHT_NAMES, WRONG_NAMES, ladder, no_ladders, signs, some_ladders
 
-ALL = sorted({Fraction(p, q) for q in range(2, 65) for p in range(1, q)})
 FORMS = {f"{f.numerator}/{f.denominator}": f for f in ALL}
 # The greatest fraction among those whose form begins so.
 BEST = {form[:n]: f for f in ALL for form in [f"{f.numerator}/{f.denominator}"] for n in range(len(form) + 1)}
 SAMPLE = "chart swing1 1/64 9/31 1/2 11/20 62/63 63/64\n"
-
-
-def ladder(fractions, name="a"):
-    return f"chart {name}" + "".join(f" {f.numerator}/{f.denominator}" for f in fractions) + "\n"
 
 
 def rising(pieces):
@@ -227,6 +221,13 @@ class AgainstTheWords(Chart):
         for i in range(len(SAMPLE)):
             for k in range(i + 1, len(SAMPLE) + 1):
                 self.check(SAMPLE[:i] + SAMPLE[k:])
+
+    def test_many_that_are_one_and_many_that_are_none(self):
+        for fractions in some_ladders():
+            self.ones(ladder(fractions))
+        for text in no_ladders():
+            self.assertEqual(chart(text), expected(bytes(text).decode("latin-1")), bytes(text))
+            self.assertEqual(chart(text)[0], -6, bytes(text))
 
     def test_two_pieces_changed_for_one_another(self):
         pieces = self.LONG[:-1].split(" ")

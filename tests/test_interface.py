@@ -3,11 +3,12 @@
 import inspect
 import unittest
 
-from drawingsbetween.drawings import apart, arced, between, chart, fit, halves
-from tests.making import MOST, drawing, fill, greatest, head, signs, stroke
+from drawingsbetween.drawings import apart, arced, at, between, chart, fit, halves, turned
+from tests.making import ALL, MOST, drawing, fill, greatest, head, ladder, no_ladders, signs, stroke
 
 LONGEST = 55000
 LONGEST_OF_THREE = 36000
+LONGEST_ALONE = 100000
 MID = signs("mid")
 PAIRS = (
     (drawing(stroke(places=[(1, 2)]), fill()), drawing(stroke(places=[(-3, 9)]), fill(1, 5, 5))),
@@ -34,14 +35,16 @@ TRIOS = (
     ([], [], []),
     [drawing(stroke(places=[(n, 0)])) for n in (999, 999, -999)],
 )
-LADDERS = ([], signs("chart a 1/2\n"), signs("chart a 1/3 1/2 63/64\n"), signs("chart a 2/4\n"), signs("chart"), [10] * 65537)
+LADDERS = [[], signs("chart a 1/2\n"), signs("chart a 1/3 1/2 63/64\n"), signs("chart a 2/4\n"), signs("chart"), [10] * 65537]
+LADDERS += [signs(ladder(ALL[:32], "a123456789012345")), signs(ladder(ALL[:33]))]
 CASES = [(call, pair) for call in (fit, apart) for pair in PAIRS]
 CASES += [(call, (1, 2, *pair, MID)) for call in (between, halves) for pair in PAIRS]
 CASES += [(call, (*two, *PAIRS[0], MID)) for call in (between, halves) for two in ((0, 1), (MOST, MOST), (1, 0))]
 CASES += [(call, (1, 2, *PAIRS[0], s)) for call in (between, halves) for s in ([], signs("9"), [97] * 100)]
 CASES += [(arced, (1, 4, *trio, MID)) for trio in TRIOS]
 CASES += [(arced, (p, q, *TRIOS[0], s)) for p, q, s in ((0, 1, MID), (MOST, MOST, MID), (1, 0, MID), (1, 4, [97] * 100))]
-CASES += [(chart, (t,)) for t in LADDERS]
+CASES += [(call, (t,)) for call in (chart, turned) for t in LADDERS]
+CASES += [(at, (i, t)) for i in (0, 1, 31, 32, MOST) for t in LADDERS]
 
 
 def copied(given):
@@ -63,7 +66,8 @@ class Kinds(unittest.TestCase):
             self.assertEqual([type(n) for n in answer], [int] * len(answer))
 
     def test_names_of_the_arguments(self):
-        names = {fit: "a b", apart: "a b", between: "p q a b s", halves: "k m a b s", arced: "p q a b c s", chart: "t"}
+        names = {fit: "a b", apart: "a b", between: "p q a b s", halves: "k m a b s", arced: "p q a b c s", chart: "t",
+                 at: "i t", turned: "t"}
         for call, expected in names.items():
             self.assertEqual(" ".join(inspect.signature(call).parameters), expected)
 
@@ -75,6 +79,10 @@ class Kinds(unittest.TestCase):
                 self.assertTrue(refused or answer[0] == len(answer) - 1, answer)
             if call == chart:
                 self.assertEqual(len(answer), 2 if answer[0] == -6 else 1)
+            if call == at:
+                self.assertEqual(len(answer), 1 if answer[0] in (-2, -6, -3) else 2)
+            if call == turned:
+                self.assertTrue(answer in ([-2], [-6]) or answer[0] == len(answer) - 1, answer)
 
 
 class Watched(list):
@@ -152,6 +160,16 @@ class LongTexts(unittest.TestCase):
             self.assertEqual(arced(1, 4, shorter, good, good, MID), [-6])
             self.assertEqual(arced(1, 4, good, shorter, good, MID), [-5])
             self.assertEqual(arced(1, 4, good, good, shorter, MID), [-4])
+
+    def test_nor_does_a_ladders(self):
+        for text in LADDERS + no_ladders():
+            for sign in (0, 10, 32, 47, 49, 97, 255):
+                long = (text + [sign] * LONGEST_ALONE)[:LONGEST_ALONE]
+                for count, answer in ((65536, [-6]), (65537, [-2]), (LONGEST_ALONE, [-2])):
+                    self.assertEqual(chart(long[:count])[:1], answer)
+                    self.assertEqual(turned(long[:count]), answer)
+                    self.assertEqual(at(0, long[:count]), answer)
+                    self.assertEqual(at(MOST, long[:count]), answer)
 
 
 if __name__ == "__main__":
