@@ -1,12 +1,14 @@
-"""The calls: whether two drawings fit, how far apart they are, what's between them; and what ladders tell."""
+"""The calls: whether two drawings fit, how far apart they are, what's between them; ladders told and made."""
 
 from drawingsbetween.texts import Drawing, Fill, Stroke, drawing_or_none, drawing_text, is_name
-from drawingsbetween.texts import FARTHEST_PLACE, MOST_PARTS, Ladder, NoLadder, Reader
-from drawingsbetween.texts import ladder_or_none, ladder_text, read_ladder
+from drawingsbetween.texts import FARTHEST_PLACE, MOST_FRACTIONS, MOST_PARTS, Ladder, NoLadder, Reader
+from drawingsbetween.texts import common_divisor, ladder_or_none, ladder_text, read_ladder
 
 MOST_BYTES = 65536
 # By halves, m times: so many steps from the one end to the other.
 STEPS = (1, 2, 4, 8, 16)
+# What the fractions of slow ladders are parted by, one after another.
+DOUBLINGS = (2, 4, 8, 16, 32, 64)
 # What is refused where the first text is none, the second, the third.
 NO_TEXT = (-6, -5, -4)
 
@@ -147,6 +149,19 @@ def turned_fractions(fractions):
     return [(q - p, q) for p, q in reversed(fractions)]
 
 
+def in_least_terms(p, q):
+    divisor = common_divisor(p, q)
+    return (p // divisor, q // divisor)
+
+
+def even_fractions(k):
+    return [in_least_terms(p, k + 1) for p in range(1, k + 1)]
+
+
+def slow_at_end(k):
+    return [(q - 1, q) for q in DOUBLINGS[:k]]
+
+
 def told(text):
     return [len(text)] + text
 
@@ -242,3 +257,19 @@ def turned(t):
     if ladder is None:
         return [-6]
     return told(ladder_text(Ladder(ladder.name, turned_fractions(ladder.fractions))))
+
+
+def even(k, s):
+    if not 1 <= k <= MOST_FRACTIONS or not is_name(s):
+        return [-1]
+    return told(ladder_text(Ladder(s, even_fractions(k))))
+
+
+def slow(k, e, s):
+    if not 1 <= k <= len(DOUBLINGS) or not 0 <= e <= 1 or not is_name(s):
+        return [-1]
+    fractions = slow_at_end(k)
+    if e == 0:
+        # At its beginning it is as slow as the other one at its end.
+        fractions = turned_fractions(fractions)
+    return told(ladder_text(Ladder(s, fractions)))

@@ -98,7 +98,7 @@ def points(values):
 def shaped(name, values, spots):
     """A drawing with strokes through these values, x and y in turn, and fills at these spots."""
     places = points(values)
-    rows = [stroke(f"s{i}", i + 1, i % 17, places[i:i + 64]) for i in range(0, len(places), 64)]
+    rows = [stroke(f"s{i}", 1 + i % 255, i % 17, places[i:i + 64]) for i in range(0, len(places), 64)]
     rows += [fill(i + 1, *point) for i, point in enumerate(points(spots))]
     return drawing(*rows, name=name, width=256, height=256)
 
@@ -172,3 +172,40 @@ def no_ladders():
               b"chart a 1/2\nchart a 1/2\n", b"chart a 1/2\n\n", b"chart a 1/2", b"chart a 1/2\n ", b"chart a 1/2\n\0"]
     texts += [ladder(fractions).encode() for fractions in (ALL[:33], ALL[-33:], ALL[::37], ALL[::-1][:32], ALL)]
     return [list(text) for text in texts]
+
+
+class Sequence:
+    """Numbers that look thrown, but are the same at each run."""
+
+    def __init__(self, start):
+        self.state = start
+
+    def below(self, most):
+        self.state = (self.state * 6364136223846793005 + 1442695040888963407) % 2 ** 64
+        return (self.state >> 33) % most
+
+    def one_of(self, choices):
+        return choices[self.below(len(choices))]
+
+    def coordinate(self):
+        """Often an edge, often close to 0, else anywhere."""
+        return self.one_of((999, -999, self.below(7) - 3, self.below(1999) - 999, self.below(1999) - 999))
+
+    def fitting(self, count, strokes, places, fills):
+        """So many drawings that fit one another, with at most so many strokes, places of each and fills."""
+        width, height = self.one_of((1, 2, 256, 1 + self.below(256))), self.one_of((1, 2, 256, 1 + self.below(256)))
+        lengths = [1 + self.below(places) for _ in range(self.below(strokes + 1))]
+        looks = [(1 + self.below(255), self.below(17)) for _ in lengths]
+        paints = [1 + self.below(255) for _ in range(self.below(fills + 1))]
+        some = []
+        for name in ("one", "two", "three")[:count]:
+            rows = [stroke(f"s{i}", *look, [(self.coordinate(), self.coordinate()) for _ in range(length)])
+                    for i, (look, length) in enumerate(zip(looks, lengths))]
+            rows += [fill(paint, self.below(width), self.below(height)) for paint in paints]
+            some.append(drawing(*rows, name=name, width=width, height=height))
+        return some
+
+    def ladder(self):
+        """A ladder's text with 1 to 32 of all fractions, in their order."""
+        chosen = {self.below(len(ALL)) for _ in range(1 + self.below(32))}
+        return signs(ladder([ALL[i] for i in sorted(chosen)], self.one_of(("a", "walk", "b2", "z" * 16))))

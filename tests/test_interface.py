@@ -3,7 +3,7 @@
 import inspect
 import unittest
 
-from drawingsbetween.drawings import apart, arced, at, between, chart, fit, halves, turned
+from drawingsbetween.drawings import apart, arced, at, between, chart, even, fit, halves, slow, turned
 from tests.making import ALL, MOST, drawing, fill, greatest, head, ladder, no_ladders, signs, stroke
 
 LONGEST = 55000
@@ -44,6 +44,8 @@ CASES += [(call, (1, 2, *PAIRS[0], s)) for call in (between, halves) for s in ([
 CASES += [(arced, (1, 4, *trio, MID)) for trio in TRIOS]
 CASES += [(arced, (p, q, *TRIOS[0], s)) for p, q, s in ((0, 1, MID), (MOST, MOST, MID), (1, 0, MID), (1, 4, [97] * 100))]
 CASES += [(call, (t,)) for call in (chart, turned) for t in LADDERS]
+CASES += [(even, (k, s)) for k in (0, 1, 5, 32, 33, MOST) for s in ([], MID, [97] * 16, [97] * 100)]
+CASES += [(slow, (k, e, s)) for k in (0, 1, 6, 7, MOST) for e in (0, 1, 2, MOST) for s in ([], MID, [97] * 100)]
 CASES += [(at, (i, t)) for i in (0, 1, 31, 32, MOST) for t in LADDERS]
 
 
@@ -67,7 +69,7 @@ class Kinds(unittest.TestCase):
 
     def test_names_of_the_arguments(self):
         names = {fit: "a b", apart: "a b", between: "p q a b s", halves: "k m a b s", arced: "p q a b c s", chart: "t",
-                 at: "i t", turned: "t"}
+                 at: "i t", turned: "t", even: "k s", slow: "k e s"}
         for call, expected in names.items():
             self.assertEqual(" ".join(inspect.signature(call).parameters), expected)
 
@@ -83,6 +85,8 @@ class Kinds(unittest.TestCase):
                 self.assertEqual(len(answer), 1 if answer[0] in (-2, -6, -3) else 2)
             if call == turned:
                 self.assertTrue(answer in ([-2], [-6]) or answer[0] == len(answer) - 1, answer)
+            if call in (even, slow):
+                self.assertTrue(answer == [-1] or answer[0] == len(answer) - 1, answer)
 
 
 class Watched(list):
@@ -125,6 +129,15 @@ class NothingKept(unittest.TestCase):
         once = [call(*given) for call, given in CASES]
         again = [call(*given) for call, given in reversed(CASES)]
         self.assertEqual(once, again[::-1])
+
+    def test_whatever_was_called_between(self):
+        once = [call(*given) for call, given in CASES]
+        for step in (7, 11, 13):
+            self.assertNotEqual(len(CASES) % step, 0)
+            for i in [n * step % len(CASES) for n in range(len(CASES))]:
+                call, given = CASES[i]
+                self.assertEqual(call(*given), once[i])
+                self.assertEqual(call(*given), once[i])
 
     def test_an_answer_is_the_callers_own(self):
         for call, given in CASES:
